@@ -78,12 +78,29 @@ func (d digits) times(o digits) (digits, bool) {
 	return product, result[places] == 0
 }
 
-// shifted returns the digits whose bits are n places higher, or lower if n is negative; bits below 0 are lost.
-func (d digits) shifted(n int) digits {
+// shifted returns the digits whose bits are n places higher, or lower if down is set; bits that leave are lost.
+func (d digits) shifted(n int, down bool) digits {
+	for i := range (digits{uint32(n)}).ones {
+		step := 1 << i
+		if down {
+			step = -step
+		}
+		d = d.moved(step)
+	}
+	return d
+}
+
+// moved returns the digits whose bits are n places higher, where n is plus or minus a power of 2.
+func (d digits) moved(n int) digits {
 	var result digits
-	for i := range d.ones {
-		if place := i + n; place >= 0 {
-			result[place/32] |= 1 << (place % 32)
+	whole, part := n>>5, n&31
+	for i := max(whole, 0); i < min(places+whole+1, places); i++ {
+		from := i - whole
+		if from < places {
+			result[i] = d[from] << part
+		}
+		if from > 0 {
+			result[i] |= uint32(uint64(d[from-1]) << part >> 32)
 		}
 	}
 	return result

@@ -187,7 +187,7 @@ func (a Nat) ShiftLeft(n int) (Nat, api.Errno) {
 	if n > MaxBits-a.length() {
 		return Nat{}, api.ErrFull
 	}
-	return Nat{a.shifted(n)}, api.OK
+	return Nat{a.shifted(n, false)}, api.OK
 }
 
 // ShiftRight returns the quotient by a power of 2.
@@ -198,7 +198,7 @@ func (a Nat) ShiftRight(n int) (Nat, api.Errno) {
 	if n >= MaxBits {
 		return Nat{}, api.OK
 	}
-	return Nat{a.shifted(-n)}, api.OK
+	return Nat{a.shifted(n, true)}, api.OK
 }
 
 // GCD returns the greatest common divisor.
