@@ -71,3 +71,22 @@ func Decode[T any](b []byte, value func(*der.Reader) (T, api.Errno)) (T, api.Err
 	}
 	return v, api.OK
 }
+
+// Omitted reads the tagged element with a number, which is absent if its value is empty.
+func Omitted[T any](r *der.Reader, n int, value func(*der.Reader) (T, api.Errno), empty func(T) bool) (T, api.Errno) {
+	v, present, e := Optional(r, n, value)
+	if present && empty(v) {
+		var none T
+		return none, api.ErrFormat
+	}
+	return v, e
+}
+
+// Number reports whether a number is 0.
+func Number(v int) bool { return v == 0 }
+
+// List reports whether a list is empty.
+func List[T any](l []T) bool { return len(l) == 0 }
+
+// Text reports whether a string is empty.
+func Text(s string) bool { return s == "" }
