@@ -32,12 +32,12 @@ func acts() map[api.ActKind]func(*World, api.Act) {
 		api.ActCancel:    (*World).cancel,
 		api.ActCall:      (*World).call,
 		api.ActDeliver:   (*World).deliver,
-		api.ActDrop:      func(w *World, x api.Act) { need(0, w.network.Drop(x.N)) },
-		api.ActDuplicate: func(w *World, x api.Act) { need(w.network.Duplicate(x.N)) },
-		api.ActReplay:    func(w *World, x api.Act) { need(w.network.Replay(x.N)) },
-		api.ActRedirect:  func(w *World, x api.Act) { need(0, w.network.Redirect(x.N, x.Host)) },
-		api.ActAlter:     func(w *World, x api.Act) { need(0, w.network.Alter(x.N, x.Node, x.Mask)) },
-		api.ActInject:    func(w *World, x api.Act) { need(w.network.Inject(x.Packet)) },
+		api.ActDrop:      (*World).drop,
+		api.ActDuplicate: (*World).duplicate,
+		api.ActReplay:    (*World).replay,
+		api.ActRedirect:  (*World).redirect,
+		api.ActAlter:     (*World).alter,
+		api.ActInject:    (*World).inject,
 		api.ActElect:     (*World).elect,
 		api.ActBeat:      (*World).beat,
 		api.ActPass:      (*World).passLetter,
@@ -152,6 +152,24 @@ func (r *realm) post(l []failover.Message) {
 		r.next++
 	}
 }
+
+// drop lets a packet be lost.
+func (w *World) drop(x api.Act) { need(0, w.network.Drop(x.N)) }
+
+// duplicate doubles a packet.
+func (w *World) duplicate(x api.Act) { need(w.network.Duplicate(x.N)) }
+
+// replay sends a recorded packet again.
+func (w *World) replay(x api.Act) { need(w.network.Replay(x.N)) }
+
+// redirect sends a packet to another host.
+func (w *World) redirect(x api.Act) { need(0, w.network.Redirect(x.N, x.Host)) }
+
+// alter changes a byte of a packet.
+func (w *World) alter(x api.Act) { need(0, w.network.Alter(x.N, x.Node, x.Mask)) }
+
+// inject sends a forged packet.
+func (w *World) inject(x api.Act) { need(w.network.Inject(x.Packet)) }
 
 // elect lets a node hold an election.
 func (w *World) elect(x api.Act) {
