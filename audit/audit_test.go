@@ -195,6 +195,12 @@ func TestFull(t *testing.T) {
 			t.Fatal(i, e)
 		}
 	}
+	if x, e := a.Event(0); e != api.OK || x.Kind != delegation("db/a@R").Kind {
+		t.Error(e)
+	}
+	if _, e := a.Event(a.Len()); e != api.ErrNone {
+		t.Error(e)
+	}
 	if _, e := a.Add(issue()); e != api.ErrFull {
 		t.Error(e)
 	}

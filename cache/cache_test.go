@@ -169,6 +169,14 @@ func TestExpireRenewable(t *testing.T) {
 	for range c.Renewable(60, 0, 41) {
 		break
 	}
+	two := filled(t, credential("z@R", api.FlagRenewable, api.Times{End: 100, Renew: 200}), a())
+	order := ""
+	for x := range two.Renewable(60, 0, 41) {
+		order += x.Service.Parts[0] + " "
+	}
+	if order != "krbtgt z " {
+		t.Error(order)
+	}
 	all := c.Credentials()
 	n, e := c.Expire(106, 5)
 	m, f := c.Expire(106, 5)
@@ -176,9 +184,9 @@ func TestExpireRenewable(t *testing.T) {
 	if n != 4 || m != 0 || e != api.OK || f != api.OK || g != api.ErrNone {
 		t.Error(n, m, e, f, g)
 	}
-	_, e = c.Expire(-1, 0)
-	_, f = c.Expire(1, -1)
-	if e != api.ErrArg || f != api.ErrArg {
+	n, e = c.Expire(-1, 0)
+	m, f = c.Expire(1, -1)
+	if e != api.ErrArg || f != api.ErrArg || n+m != 0 {
 		t.Error(e, f)
 	}
 	for range 2 {

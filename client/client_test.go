@@ -137,6 +137,7 @@ func TestNew(t *testing.T) {
 		ok     bool
 	}{
 		{func(*api.ClientConfig) {}, true}, {func(c *api.ClientConfig) { c.Client = api.Principal{} }, false}, {func(c *api.ClientConfig) { c.Password = fill(128, 1) }, true}, {func(c *api.ClientConfig) { c.Password = fill(129, 1) }, false}, {func(c *api.ClientConfig) { c.Profiles = nil }, false}, {func(c *api.ClientConfig) { c.Profiles = []int{2, 1} }, true}, {func(c *api.ClientConfig) { c.Profiles = []int{1, 1} }, false}, {func(c *api.ClientConfig) { c.Profiles = []int{3} }, false}, {func(c *api.ClientConfig) { c.Method = 19 }, false}, {func(c *api.ClientConfig) { c.Method = api.PreAuthPake }, false}, {func(c *api.ClientConfig) { c.Method = api.PreAuthPake; c.Group = 4 }, true}, {func(c *api.ClientConfig) { c.Group = 5 }, false}, {func(c *api.ClientConfig) { c.Group = -1 }, false}, {func(c *api.ClientConfig) { c.Chain = make([]api.Cert, 1) }, false}, {func(c *api.ClientConfig) { c.Method, c.Group = api.PreAuthPublic, 1 }, false}, {func(c *api.ClientConfig) { c.Method, c.Group, c.Chain = api.PreAuthPublic, 1, make([]api.Cert, 5) }, true}, {func(c *api.ClientConfig) { c.Method, c.Group, c.Chain = api.PreAuthPublic, 1, make([]api.Cert, 6) }, false},
+		{func(c *api.ClientConfig) { c.Life, c.Skew = 1, 0 }, true}, {func(c *api.ClientConfig) { c.Life, c.Renew, c.Skew = 1<<31, 1<<31, 86400 }, true}, {func(c *api.ClientConfig) { c.Profiles = []int{2} }, true}, {func(c *api.ClientConfig) { c.Anchors, c.Revoked = make([]api.Anchor, 64), make([]api.Revocation, 64) }, true}, {func(c *api.ClientConfig) { c.Renew = 1<<31 + 1 }, false},
 		{func(c *api.ClientConfig) { c.Anchors = make([]api.Anchor, 65) }, false}, {func(c *api.ClientConfig) { c.Revoked = make([]api.Revocation, 65) }, false}, {func(c *api.ClientConfig) { c.Skew = -1 }, false}, {func(c *api.ClientConfig) { c.Skew = 86401 }, false}, {func(c *api.ClientConfig) { c.Life = 0 }, false}, {func(c *api.ClientConfig) { c.Life = 1<<31 + 1 }, false}, {func(c *api.ClientConfig) { c.Renew = -1 }, false}, {func(c *api.ClientConfig) { c.Options = api.FlagPostdated }, false}, {func(c *api.ClientConfig) { c.Addresses = make([]api.Address, 1) }, false},
 	} {
 		c := config()
@@ -206,6 +207,12 @@ func TestStart(t *testing.T) {
 	_, e := c.Receive(nil, 10, 0)
 	if e != api.ErrState || c.Cancel() != api.ErrState {
 		t.Error(e)
+	}
+	for i, set := range []func(*api.ClientConfig){func(c *api.ClientConfig) { c.Renew = 1000 }, func(c *api.ClientConfig) { c.Options = api.FlagRenewable }} {
+		s, _ := start(t, set).Start(goal("s@R"), 10, 0)
+		if r, e := message.DecodeRequest(s.Bytes); e != api.OK || r.Renew != 0 {
+			t.Error(i, r.Renew, e)
+		}
 	}
 	g, _ := random.New([]byte("seed"))
 	nonce, _ := g.Number(api.MaxSeq)

@@ -203,6 +203,10 @@ func TestForUser(t *testing.T) {
 		}, api.CodeMessage}, {"empty sum", func(_ grant.Realm, c *call) { c.raw = der.Sequence(der.Tagged(0, n), der.Tagged(1, der.Octets(nil))) }, api.CodeModified}, {"trailing", func(_ grant.Realm, c *call) {
 			c.raw = append(der.Sequence(der.Tagged(0, n), der.Tagged(1, der.Octets(nil))), 0)
 		}, api.CodeMessage}, {"no keys", func(x grant.Realm, _ *call) { change(x, "s@R", func(e *api.Entry) { e.Keys = nil }) }, api.CodeNoKey},
+		{"unknown", func(_ grant.Realm, c *call) { c.user = "x@R" }, api.CodeClientUnknown}, {"alias", func(x grant.Realm, c *call) {
+			change(x, "u@R", func(e *api.Entry) { e.Aliases = []api.Principal{principal("alias@R")} })
+			c.user = "alias@R"
+		}, api.CodeClientUnknown},
 	} {
 		x, c := start(), forUser()
 		v.change(x, &c)

@@ -130,6 +130,7 @@ func TestValid(t *testing.T) {
 		valid  bool
 	}{
 		{func(*api.CentreConfig) {}, true}, {func(c *api.CentreConfig) { c.Realm = "r" }, false}, {func(c *api.CentreConfig) { c.Skew = -1 }, false}, {func(c *api.CentreConfig) { c.Skew = 86401 }, false}, {func(c *api.CentreConfig) { c.Life = 0 }, false}, {func(c *api.CentreConfig) { c.Life = 1 << 31 }, true}, {func(c *api.CentreConfig) { c.Life = 1<<31 + 1 }, false}, {func(c *api.CentreConfig) { c.Renew = -1 }, false}, {func(c *api.CentreConfig) { c.Renew = 1<<31 + 1 }, false}, {func(c *api.CentreConfig) { c.Allowed = all }, true}, {func(c *api.CentreConfig) { c.Allowed = api.FlagInitial }, false}, {func(c *api.CentreConfig) { c.Allowed = api.FlagForwarded }, false},
+		{func(c *api.CentreConfig) { c.Skew, c.Life = 0, 1 }, true}, {func(c *api.CentreConfig) { c.Skew, c.Renew = 86400, 1<<31 }, true}, {func(c *api.CentreConfig) { c.Revoked = make([]api.Revocation, 64) }, true}, {func(c *api.CentreConfig) { c.PakeGroup = 1 }, true},
 		{func(c *api.CentreConfig) { c.PakeGroup = 4 }, true}, {func(c *api.CentreConfig) { c.PakeGroup = 5 }, false}, {func(c *api.CentreConfig) { c.PakeGroup = -1 }, false}, {func(c *api.CentreConfig) { c.Anchors = make([]api.Anchor, 64) }, true}, {func(c *api.CentreConfig) { c.Anchors = make([]api.Anchor, 65) }, false}, {func(c *api.CentreConfig) { c.Revoked = make([]api.Revocation, 65) }, false}, {func(c *api.CentreConfig) { c.Chain = make([]api.Cert, 5); c.Private = []byte{1} }, true}, {func(c *api.CentreConfig) { c.Chain = make([]api.Cert, 6); c.Private = []byte{1} }, false}, {func(c *api.CentreConfig) { c.Private = []byte{1} }, false}, {func(c *api.CentreConfig) { c.Chain = make([]api.Cert, 1) }, false},
 	} {
 		b := start()
@@ -438,6 +439,8 @@ func TestPake(t *testing.T) {
 	q := with(x.Element())
 	q.Service = principal("s@R")
 	b.refused(t, "no key", q, 100, api.CodeNoKey)
+	b.change("s@R", func(e *api.Entry) { e.Aliases = []api.Principal{principal("krbtgt/R@R")} })
+	b.refused(t, "an alias's key", q, 100, api.CodeNoKey)
 }
 
 // chain returns the chain of a subject whose private key is 00 and a byte.

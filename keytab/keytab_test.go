@@ -154,6 +154,16 @@ func TestMerge(t *testing.T) {
 			t.Error(i, n, e)
 		}
 	}
+	full, rest := &keytab.Table{}, filled(t, entry("z@R", 1, key(1, 1, 1)), entry("z@R", 1, key(1, 2, 1)))
+	for i := range keytab.MaxEntries - 2 {
+		full.Add(entry("a@R", 1, key(1, i+1, 1)))
+	}
+	if n, e := full.Merge(rest); n != 2 || e != api.OK || len(full.Lines()) != keytab.MaxEntries {
+		t.Error(n, e)
+	}
+	if n, e := full.Merge(filled(t, entry("z@R", 1, key(1, 1, 1)), entry("z@R", 1, key(1, 3, 1)))); n != 0 || e != api.ErrFull {
+		t.Error(n, e)
+	}
 	if n, e := x.Merge(x); n != 0 || e != api.OK {
 		t.Error(n, e)
 	}

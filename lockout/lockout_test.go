@@ -56,11 +56,11 @@ func TestErrors(t *testing.T) {
 		p   api.Policy
 		now int
 	}{{api.Entry{}, p, 1}, {good, api.Policy{}, 1}, {good, p, -1}, {good, p, 1<<40 + 1}} {
-		_, e1 := lockout.Count(x.e, x.p, x.now)
-		_, e2 := lockout.Locked(x.e, x.p, x.now)
-		_, e3 := lockout.Until(x.e, x.p, x.now)
+		n1, e1 := lockout.Count(x.e, x.p, x.now)
+		locked, e2 := lockout.Locked(x.e, x.p, x.now)
+		n3, e3 := lockout.Until(x.e, x.p, x.now)
 		_, e4 := lockout.Attempt(x.e, x.p, true, x.now)
-		if e1 != api.ErrArg || e2 != api.ErrArg || e3 != api.ErrArg || e4 != api.ErrArg {
+		if e1 != api.ErrArg || e2 != api.ErrArg || e3 != api.ErrArg || e4 != api.ErrArg || n1+n3 != 0 || locked {
 			t.Error(i, e1, e2, e3, e4)
 		}
 	}

@@ -49,7 +49,7 @@ func ring(t *testing.T, keys ...api.Key) *master.Ring {
 
 func TestRing(t *testing.T) {
 	r := master.New()
-	if _, e := r.Current(); e != api.ErrNone {
+	if v, e := r.Current(); v != 0 || e != api.ErrNone {
 		t.Error(e)
 	}
 	if r.Remove(1) != api.ErrNone || r.Add(key(9, 0)) != api.ErrArg || r.Add(api.Key{Profile: 3, Version: 1}) != api.ErrArg || r.Add(key(9, 1)) != api.OK || r.Add(key(9, 1)) != api.ErrBusy || r.Add(key(8, 3)) != api.OK || r.Add(key(7, 2)) != api.ErrBusy || r.Add(api.Key{Version: 1}) != api.ErrArg {
@@ -89,7 +89,7 @@ func TestRing(t *testing.T) {
 
 func TestNil(t *testing.T) {
 	for _, r := range []*master.Ring{nil, {}} {
-		_, e1 := r.Current()
+		v, e1 := r.Current()
 		_, e2 := r.Wrap(api.Entry{}, nil)
 		_, e3 := r.Unwrap(api.Entry{})
 		_, e4 := r.Rewrap(api.Entry{}, nil)
@@ -99,7 +99,7 @@ func TestNil(t *testing.T) {
 				t.Error(i, e)
 			}
 		}
-		if r.Copy() != nil || len(slices.Collect(r.Versions())) != 0 {
+		if v != 0 || r.Copy() != nil || len(slices.Collect(r.Versions())) != 0 {
 			t.Error("copy")
 		}
 	}

@@ -68,9 +68,9 @@ func TestErrors(t *testing.T) {
 	var n network.Network
 	long := strings.Repeat("h", 33)
 	for i, p := range []api.Packet{{}, packet("", "b"), packet("a", ""), packet(long, "b"), packet("a", long), {From: "a", To: "b", Bytes: make([]byte, 65537)}} {
-		_, e := n.Send(p)
-		_, f := n.Inject(p)
-		if e != api.ErrArg || f != api.ErrArg {
+		a, e := n.Send(p)
+		b, f := n.Inject(p)
+		if e != api.ErrArg || f != api.ErrArg || a+b != 0 {
 			t.Error(i, e, f)
 		}
 	}
@@ -135,11 +135,14 @@ func TestErrors(t *testing.T) {
 
 func TestNil(t *testing.T) {
 	var n *network.Network
-	_, e1 := n.Send(api.Packet{})
+	a, e1 := n.Send(api.Packet{})
 	_, e2 := n.Deliver(0)
 	_, e3 := n.Duplicate(0)
 	_, e4 := n.Replay(0)
-	_, e5 := n.Inject(api.Packet{})
+	b, e5 := n.Inject(api.Packet{})
+	if a+b != 0 {
+		t.Error(a, b)
+	}
 	_, e6 := n.Source(0)
 	_, e7 := n.Genuine(0)
 	for i, e := range []api.Errno{e1, e2, e3, e4, e5, e6, e7, n.Drop(0), n.Alter(0, 0, 0), n.Redirect(0, ""), n.Block("", ""), n.Unblock("", "")} {

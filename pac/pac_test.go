@@ -233,6 +233,10 @@ func TestBindFindPut(t *testing.T) {
 	if b, ok := pac.Find(l); !bytes.Equal(b, []byte{2}) || !ok {
 		t.Error(b, ok)
 	}
+	first, e := pac.Put(l[1:], []byte{8})
+	if b, ok := pac.Find(l[1:]); !ok || !bytes.Equal(b, []byte{2}) || e != api.OK || len(first) != 2 || first[0].Bytes[0] != 8 {
+		t.Error(b, ok, first, e)
+	}
 	if b, ok := pac.Find(l[:1]); len(b) != 0 || ok {
 		t.Error(b, ok)
 	}

@@ -98,6 +98,10 @@ func TestDerive(t *testing.T) {
 			t.Error(i, e)
 		}
 	}
+	least, e := password.Derive(password.Plan{Profiles: []int{2}, Iterations: 1}, p, nil, 1, 0)
+	if e != api.OK || len(least.Keys) != 1 || least.Iterations != 1 {
+		t.Error(least, e)
+	}
 	if _, e := password.Derive(plan, p, long[1:], 65535, 1<<40); e != api.OK {
 		t.Error(e)
 	}
@@ -117,8 +121,11 @@ func TestMatch(t *testing.T) {
 	random, wrapped := get(t, d), get(t, d)
 	random.Keys[0].Salt, random.Keys[0].Iterations = "", 0
 	wrapped.Master = 1
-	_, e1 := password.Match(random, []byte("pass1"))
-	_, e2 := password.Match(wrapped, []byte("pass1"))
+	ok1, e1 := password.Match(random, []byte("pass1"))
+	ok2, e2 := password.Match(wrapped, []byte("pass1"))
+	if ok1 || ok2 {
+		t.Error("a match")
+	}
 	_, e3 := password.Match(api.Entry{}, nil)
 	_, e4 := password.Match(get(t, d), make([]byte, 4097))
 	if e1 != api.ErrState || e2 != api.ErrState || e3 != api.ErrArg || e4 != api.ErrArg {

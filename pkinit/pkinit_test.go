@@ -3,6 +3,7 @@ package pkinit_test
 import (
 	"bytes"
 	"crypto/sha256"
+	"slices"
 	"testing"
 
 	"watchword/api"
@@ -176,7 +177,7 @@ func TestCheckErrors(t *testing.T) {
 		now, skew int
 		want      api.Errno
 	}{
-		{p, anchors(), nil, request(), 100, 0, api.OK}, {p, anchors(), nil, request(), 90, 10, api.OK}, {p, anchors(), nil, request(), 89, 10, api.ErrSkew}, {p, anchors(), nil, request(), 111, 10, api.ErrSkew}, {p, anchors(), nil, nonce, 500, 10, api.ErrPublicNonce}, {p, anchors(), nil, both, 500, 10, api.ErrPublicName}, {p, anchors(), nil, body, 500, 10, api.ErrPublicBody},
+		{p, anchors(), nil, request(), 100, 0, api.OK}, {p, append(anchors(), slices.Repeat(anchors(), 63)...), make([]api.Revocation, 64), request(), 100, 0, api.OK}, {p, anchors(), nil, request(), 90, 10, api.OK}, {p, anchors(), nil, request(), 89, 10, api.ErrSkew}, {p, anchors(), nil, request(), 111, 10, api.ErrSkew}, {p, anchors(), nil, nonce, 500, 10, api.ErrPublicNonce}, {p, anchors(), nil, both, 500, 10, api.ErrPublicName}, {p, anchors(), nil, body, 500, 10, api.ErrPublicBody},
 		{p, nil, nil, both, 500, 10, api.ErrCertIssuer}, {p, anchors(), []api.Revocation{{Issuer: principal("ca@R"), Serial: 2}}, both, 500, 10, api.ErrCertRevoked}, {p, anchors(), nil, both, 1001, 10, api.ErrCertTime}, {api.PreAuth{Kind: 16, Bytes: elements(c, part, der.Octets(forged))}, anchors(), nil, both, 500, 10, api.ErrCheck}, {api.PreAuth{Kind: 16, Bytes: elements(c, part, der.Octets(nil))}, anchors(), nil, both, 500, 10, api.ErrCheck}, {public(chain("u@R", 2), 3, part), anchors(), nil, both, 500, 10, api.ErrCheck},
 		{api.PreAuth{Kind: 2, Bytes: p.Bytes}, anchors(), nil, request(), 100, 0, api.ErrArg}, {api.PreAuth{Kind: 16}, anchors(), nil, grant, 100, 0, api.ErrArg}, {api.PreAuth{Kind: 16}, []api.Anchor{{}}, nil, request(), 100, 0, api.ErrArg}, {api.PreAuth{Kind: 16}, make([]api.Anchor, 65), nil, request(), 100, 0, api.ErrArg}, {api.PreAuth{Kind: 16}, anchors(), make([]api.Revocation, 65), request(), 100, 0, api.ErrArg}, {api.PreAuth{Kind: 16}, anchors(), nil, request(), -1, 0, api.ErrArg}, {api.PreAuth{Kind: 16}, anchors(), nil, request(), 100, -1, api.ErrArg}, {api.PreAuth{Kind: 16}, anchors(), nil, request(), 100, 1<<40 + 1, api.ErrArg},
 		{api.PreAuth{Kind: 16}, nil, nil, request(), 100, 0, api.ErrFormat}, {api.PreAuth{Kind: 16, Bytes: append(bytes.Clone(p.Bytes), 0)}, nil, nil, request(), 100, 0, api.ErrFormat}, {api.PreAuth{Kind: 16, Bytes: p.Bytes[:len(p.Bytes)-1]}, nil, nil, request(), 100, 0, api.ErrFormat}, {api.PreAuth{Kind: 16, Bytes: elements(c, part)}, nil, nil, request(), 100, 0, api.ErrFormat}, {api.PreAuth{Kind: 16, Bytes: elements(c, part, der.Octets(s), der.Bool(true))}, nil, nil, request(), 100, 0, api.ErrFormat}, {api.PreAuth{Kind: 16, Bytes: elements(der.Sequence(), part, der.Octets(s))}, nil, nil, request(), 100, 0, api.ErrFormat}, {api.PreAuth{Kind: 16, Bytes: elements(c, append(bytes.Clone(part), 0), der.Octets(s))}, nil, nil, request(), 100, 0, api.ErrFormat}, {api.PreAuth{Kind: 16, Bytes: elements(c, part, der.String(""))}, nil, nil, request(), 100, 0, api.ErrFormat},

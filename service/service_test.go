@@ -83,7 +83,7 @@ func TestNew(t *testing.T) {
 	for i, v := range []struct {
 		change func(*api.ServiceConfig)
 		ok     bool
-	}{{func(*api.ServiceConfig) {}, true}, {func(c *api.ServiceConfig) { c.Service.Realm = "" }, false}, {func(c *api.ServiceConfig) { c.Skew = -1 }, false}, {func(c *api.ServiceConfig) { c.Skew = 86401 }, false}, {func(c *api.ServiceConfig) { c.Limit = 0 }, false}, {func(c *api.ServiceConfig) { c.Limit = 1 << 16 }, true}, {func(c *api.ServiceConfig) { c.Limit = 1<<16 + 1 }, false}, {func(c *api.ServiceConfig) { c.Realm = key(1, 1) }, true}, {func(c *api.ServiceConfig) { c.Realm = api.Key{Profile: 1} }, false}} {
+	}{{func(*api.ServiceConfig) {}, true}, {func(c *api.ServiceConfig) { c.Skew, c.Limit = 0, 1 }, true}, {func(c *api.ServiceConfig) { c.Skew = 86400 }, true}, {func(c *api.ServiceConfig) { c.Service.Realm = "" }, false}, {func(c *api.ServiceConfig) { c.Skew = -1 }, false}, {func(c *api.ServiceConfig) { c.Skew = 86401 }, false}, {func(c *api.ServiceConfig) { c.Limit = 0 }, false}, {func(c *api.ServiceConfig) { c.Limit = 1 << 16 }, true}, {func(c *api.ServiceConfig) { c.Limit = 1<<16 + 1 }, false}, {func(c *api.ServiceConfig) { c.Realm = key(1, 1) }, true}, {func(c *api.ServiceConfig) { c.Realm = api.Key{Profile: 1} }, false}} {
 		c := config()
 		v.change(&c)
 		if s, e := service.New(c, table(), []byte("s")); (e == api.OK) != v.ok || !v.ok && (s != nil || e != api.ErrArg) {

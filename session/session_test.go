@@ -39,6 +39,9 @@ func TestNew(t *testing.T) {
 	if s, e := session.New(good); e != api.OK || s.Config().Window != 64 || s.Config().Send != 1<<32-1 {
 		t.Error(e)
 	}
+	if s, e := session.New(api.StreamConfig{Key: key(1)}); e != api.OK || s.Config().Window != 0 {
+		t.Error(e)
+	}
 	for i, change := range []func(*api.StreamConfig){func(c *api.StreamConfig) { c.Side = 2 }, func(c *api.StreamConfig) { c.Side = -1 }, func(c *api.StreamConfig) { c.Key = api.Key{} }, func(c *api.StreamConfig) { c.Skew = -1 }, func(c *api.StreamConfig) { c.Skew = 86401 }, func(c *api.StreamConfig) { c.Window = -1 }, func(c *api.StreamConfig) { c.Window = 65 }, func(c *api.StreamConfig) { c.Send = -1 }, func(c *api.StreamConfig) { c.Send = 1 << 32 }, func(c *api.StreamConfig) { c.Receive = -1 }, func(c *api.StreamConfig) { c.Receive = 1 << 32 }} {
 		c := good
 		change(&c)
