@@ -218,7 +218,7 @@ func TestServer(t *testing.T) {
 			t.Error(i)
 		}
 	}
-	if s.Allowed(api.Principal{}, api.AdminGet, principal("u@R")) || s.Allowed(principal("root@R"), api.AdminGet, api.Principal{}) {
+	if s.Allowed(api.Principal{}, api.AdminGet, principal("u@R")) || s.Allowed(principal("u@R"), api.AdminChange, api.Principal{}) || s.Allowed(principal("root@R"), api.AdminGet, api.Principal{}) {
 		t.Error("invalid")
 	}
 	all := s.Rules()

@@ -98,7 +98,7 @@ func TestEncoding(t *testing.T) {
 	if !bytes.Equal(b, app(l[0], l[1], l[3], l[4], l[6])) || len(b) != 45 || b[0] != 0x62 || e != api.OK {
 		t.Error(b, e)
 	}
-	bad := [][]byte{nil, {0x62, 0}, append(bytes.Clone(b), 0), der.Application(3, der.Sequence(l...)), der.Application(2, append(der.Sequence(l...), 1, 1, 0)), app(append(slices.Clone(l), der.Bool(true))...)}
+	bad := [][]byte{nil, {0x62, 0}, append(bytes.Clone(b), 0), der.Application(3, der.Sequence(l...)), der.Application(2, append(der.Sequence(l...), 1, 1, 0)), der.Application(2, append(der.Sequence(l...), 0)), app(append(slices.Clone(l), der.Bool(true))...)}
 	for i := range b {
 		bad = append(bad, b[:i])
 	}

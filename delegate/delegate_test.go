@@ -285,6 +285,15 @@ func TestConstrained(t *testing.T) {
 		}
 		code(t, v.what, x, c, v.code, client)
 	}
+	z := start()
+	change(z, "t@R", func(e *api.Entry) { e.Aliases = []api.Principal{principal("alias@R")} })
+	change(z, "s@R", func(e *api.Entry) { e.Targets = []api.Principal{principal("t@R")} })
+	c = constrained(z, "alias@R", api.FlagForwardable)
+	code(t, "alias", z, c, api.CodeServiceUnknown, "s@R")
+	c.r.Options |= api.OptionCanonical
+	if y := code(t, "canonical", z, c, 0, "u@R"); !name.Equal(y.Reply.Ticket.Service, principal("t@R")) {
+		t.Error(y.Reply.Ticket.Service)
+	}
 	c = constrained(x, "t@R", api.FlagForwardable)
 	c.part.Times.End = 2000
 	y, e1 := delegate.Answer(x, c.request(), api.Address{}, 100, 5)
@@ -293,7 +302,7 @@ func TestConstrained(t *testing.T) {
 	}
 	old := constrained(x, "t@R", api.FlagForwardable)
 	old.r.Tickets = []api.Ticket{evidence(x, api.FlagForwardable, api.Times{Auth: 1, Start: 1, End: 2})}
-	z := x
+	z = x
 	z.Config.Skew = 90
 	if y, e := delegate.Answer(z, old.request(), api.Address{}, 100, 5); e != api.OK || y.Fact.Code != api.CodeTicketExpired {
 		t.Error(y.Fact, e)

@@ -85,6 +85,7 @@ func TestInitial(t *testing.T) {
 		e         api.Errno
 	}{
 		{lifetime.Wish{}, l, 50, 5, times(50, 50, 150, 0), api.OK},
+		{lifetime.Wish{}, lifetime.Limits{Life: 1}, 50, 0, times(50, 50, 51, 0), api.OK},
 		{lifetime.Wish{Till: 120, Renew: 500}, l, 50, 5, times(50, 50, 120, 500), api.OK},
 		{lifetime.Wish{From: 55}, l, 50, 5, times(50, 50, 150, 0), api.OK},
 		{lifetime.Wish{From: 56}, l, 50, 5, times(50, 56, 156, 0), api.OK},

@@ -147,6 +147,19 @@ func TestChange(t *testing.T) {
 			t.Error(i, r, e)
 		}
 	}
+	once := get(t, d)
+	once.Keys[0].Salt, once.Keys[0].Iterations = "", 0
+	c := d.Copy()
+	c.Put(once)
+	if _, e := change(c, "pass1", "pass2", 160); e != api.ErrState {
+		t.Error(e)
+	}
+	once = get(t, d)
+	once.Keys[0], _ = password.Derive(password.Plan{Profiles: []int{1}, Iterations: 1}, a(), []byte("pass1"), 1, 100)
+	c.Put(once)
+	if _, e := change(c, "pass1", "pass2", 160); e != api.OK {
+		t.Error(e)
+	}
 	if r, e := change(d, "pass1", "pass2", 160); r != 0 || e != api.OK || d.Serial() != serial+1 {
 		t.Error(r, e)
 	}

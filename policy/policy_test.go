@@ -123,7 +123,7 @@ func TestTimes(t *testing.T) {
 		set           int
 		from, expires int
 		e             api.Errno
-	}{{staff(), 100, 160, 700, api.OK}, {never, 100, 160, 0, api.OK}, {late, 1, 1 << 40, 1 << 40, api.OK}, {staff(), 1 << 40, 1 << 40, 1 << 40, api.OK}, {staff(), 1<<40 - 100, 1<<40 - 40, 1 << 40, api.OK}, {staff(), -1, 0, 0, api.ErrRange}, {staff(), 1<<40 + 1, 0, 0, api.ErrRange}} {
+	}{{staff(), 100, 160, 700, api.OK}, {staff(), 0, 60, 600, api.OK}, {never, 100, 160, 0, api.OK}, {late, 1, 1 << 40, 1 << 40, api.OK}, {staff(), 1 << 40, 1 << 40, 1 << 40, api.OK}, {staff(), 1<<40 - 100, 1<<40 - 40, 1 << 40, api.OK}, {staff(), -1, 0, 0, api.ErrRange}, {staff(), 1<<40 + 1, 0, 0, api.ErrRange}} {
 		if a, b, e := policy.Times(x.p, x.set); a != x.from || b != x.expires || e != x.e {
 			t.Error(i, a, b, e)
 		}

@@ -168,7 +168,7 @@ func TestWrongEncodings(t *testing.T) {
 	five := der.Tagged(0, der.Integer(5))
 	app := func(n int, l ...[]byte) []byte { return der.Application(n, der.Sequence(l...)) }
 	good := app(1, five, der.Tagged(1, service), der.Tagged(2, sealed))
-	l := append(wrong(good), app(2, five, der.Tagged(1, service), der.Tagged(2, sealed)), app(1, der.Tagged(0, der.Integer(4)), der.Tagged(1, service), der.Tagged(2, sealed)), app(1, five, der.Tagged(2, service), der.Tagged(3, sealed)), app(1, five, der.Tagged(1, service), der.Tagged(2, sealed), der.Bool(true)), app(1, five, der.Tagged(1, service)), app(1, five, der.Tagged(1, append(bytes.Clone(service), 1, 1, 0)), der.Tagged(2, sealed)), app(1, five, der.Tagged(1, service), der.Tagged(2, der.Sealed(api.Sealed{Profile: 3}))), der.Application(1, append(der.Sequence(five, der.Tagged(1, service), der.Tagged(2, sealed)), 1, 1, 0)), der.Application(1, five))
+	l := append(wrong(good), app(2, five, der.Tagged(1, service), der.Tagged(2, sealed)), app(1, der.Tagged(0, der.Integer(4)), der.Tagged(1, service), der.Tagged(2, sealed)), app(1, five, der.Tagged(2, service), der.Tagged(3, sealed)), app(1, five, der.Tagged(1, service), der.Tagged(2, sealed), der.Bool(true)), app(1, five, der.Tagged(1, service)), app(1, five, der.Tagged(1, append(bytes.Clone(service), 1, 1, 0)), der.Tagged(2, sealed)), app(1, five, der.Tagged(1, service), der.Tagged(2, der.Sealed(api.Sealed{Profile: 3}))), der.Application(1, append(der.Sequence(five, der.Tagged(1, service), der.Tagged(2, sealed)), 1, 1, 0)), der.Application(1, append(der.Sequence(five, der.Tagged(1, service), der.Tagged(2, sealed)), 0)), der.Application(1, five))
 	for i, b := range l {
 		r := der.New(b)
 		x, e := ticket.Read(r)
@@ -204,6 +204,9 @@ func TestWrongEncodings(t *testing.T) {
 		if _, e := ticket.DecodePart(app(3, changed...)); e != api.ErrFormat {
 			t.Error(i, e)
 		}
+	}
+	if _, e := ticket.DecodePart(der.Application(3, append(der.Sequence(elements...), 0))); e != api.ErrFormat {
+		t.Error(e)
 	}
 	if _, e := ticket.DecodePart(app(4, elements...)); e != api.ErrFormat {
 		t.Error(e)

@@ -122,6 +122,21 @@ func TestEncoding(t *testing.T) {
 	}
 }
 
+// TestLeast checks the least values of the parts of updates.
+func TestLeast(t *testing.T) {
+	for i, u := range []api.Update{{Index: 1, Term: 1, Kind: api.UpdateTouch, Name: principal("a@R")}, {Index: 1, Term: 1, Kind: api.UpdateRemovePolicy, PolicyName: "!"}, {Index: 1, Term: 1, Kind: api.UpdateRemovePolicy, PolicyName: strings.Repeat("~", 32)}} {
+		b, e := update.Encode(u)
+		v, f := update.Decode(b)
+		if e != api.OK || f != api.OK || !update.Valid(u) || !update.Equal(u, v) {
+			t.Error(i, e, f)
+		}
+	}
+	u := api.Update{Index: 1, Term: 1, Kind: api.UpdateRemovePolicy}
+	if b, e := update.Encode(u); update.Valid(u) || e != api.ErrArg || len(b) != 0 {
+		t.Error(e)
+	}
+}
+
 // steps returns updates that follow each other.
 func steps() []api.Update {
 	touch := api.Update{Index: 3, Term: 1, Time: 10, Kind: api.UpdateTouch, Name: principal("a@R"), Fails: 2, LastFail: 3, LastSuccess: 4}
