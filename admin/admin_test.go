@@ -202,7 +202,7 @@ func TestServer(t *testing.T) {
 		plan password.Plan
 		seed []byte
 		ok   bool
-	}{{nil, plan, []byte("s"), true}, {slices.Repeat([]api.AdminRule{good}, 64), plan, []byte("s"), true}, {slices.Repeat([]api.AdminRule{good}, 65), plan, []byte("s"), false}, {[]api.AdminRule{{Who: good.Who}}, plan, []byte("s"), false}, {[]api.AdminRule{rule("a@R", "b@R", 64)}, plan, []byte("s"), false}, {nil, password.Plan{}, []byte("s"), false}, {nil, password.Plan{Profiles: []int{2, 1}, Iterations: 1}, []byte("s"), false}, {nil, password.Plan{Profiles: []int{1}, Iterations: 65537}, []byte("s"), false}, {nil, plan, nil, false}} {
+	}{{nil, plan, []byte("s"), true}, {nil, password.Plan{Profiles: []int{2}, Iterations: 1}, []byte("s"), true}, {nil, password.Plan{Profiles: []int{1, 1}, Iterations: 1}, []byte("s"), false}, {nil, password.Plan{Profiles: []int{1}}, []byte("s"), false}, {slices.Repeat([]api.AdminRule{good}, 64), plan, []byte("s"), true}, {slices.Repeat([]api.AdminRule{good}, 65), plan, []byte("s"), false}, {[]api.AdminRule{{Who: good.Who}}, plan, []byte("s"), false}, {[]api.AdminRule{rule("a@R", "b@R", 64)}, plan, []byte("s"), false}, {nil, password.Plan{}, []byte("s"), false}, {nil, password.Plan{Profiles: []int{2, 1}, Iterations: 1}, []byte("s"), false}, {nil, password.Plan{Profiles: []int{1}, Iterations: 65537}, []byte("s"), false}, {nil, plan, nil, false}} {
 		if s, e := admin.New(v.l, v.plan, v.seed); (e == api.OK) != v.ok || !v.ok && (s != nil || e != api.ErrArg) {
 			t.Error(i, e)
 		}

@@ -252,6 +252,16 @@ func TestStart(t *testing.T) {
 	if s, e = x.Receive(failure(25, offers...), 20, 5); e != api.OK || s.Kind != api.StepFailed || s.Code != 25 || x.Busy() {
 		t.Error(s, e)
 	}
+	more, _ := entry.EncodeOffer([]api.Salt{{Profile: 1, Salt: "Ru", Iterations: 4}, {Profile: 2, Salt: "other", Iterations: 9}})
+	x = start(t, func(c *api.ClientConfig) { c.Profiles = []int{2} })
+	x.Start(goal("s@R"), 10, 0)
+	s, e = x.Receive(failure(25, api.PreAuth{Kind: 19, Bytes: more}, api.PreAuth{Kind: 2}), 20, 5)
+	q, _ = message.DecodeRequest(s.Bytes)
+	k, _ = profile.FromPassword(2, "secret", "other", 9)
+	want, _ = timestamp.Make(k, 20, 5, confounder)
+	if e != api.OK || len(q.PreAuth) != 1 || !bytes.Equal(q.PreAuth[0].Bytes, want.Bytes) {
+		t.Error(s, e)
+	}
 	random, _ := entry.EncodeOffer([]api.Salt{{Profile: 1}})
 	for i, l := range [][]api.PreAuth{nil, {{Kind: 2}}, {{Kind: 19, Bytes: salt}}, {{Kind: 19, Bytes: random}, {Kind: 2}}, {{Kind: 19, Bytes: []byte{1}}, {Kind: 2}}} {
 		x := d.Copy()

@@ -367,6 +367,17 @@ func TestRealms(t *testing.T) {
 	if _, p := granted(t, x, f, 100, key(3)); !slices.Equal(p.Transited, []string{"M", "T"}) || p.Flags&api.FlagTransited == 0 || len(p.Data) != 0 {
 		t.Error(p)
 	}
+	// A ticket of the own realm for another realm's client, and the reverse.
+	near, back := f, f
+	near.service, near.key = "krbtgt/R@R", key(1)
+	near.part.Transited = []string{"M", "T"}
+	back.part.Client, back.auth.Client, back.part.Transited = principal("u@R"), principal("u@R"), nil
+	x.Policy.Allow("R", "R", "T")
+	for _, c := range []call{near, back} {
+		if _, p := granted(t, x, c, 100, key(3)); len(p.Data) != 0 {
+			t.Error(p)
+		}
+	}
 	// Foreign authorisation data are verified with the key of the ticket alone.
 	old := api.Pac{Client: principal("u@Q"), User: 5}
 	b, _ := pac.Sign(old, key(5), key(77))

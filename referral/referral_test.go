@@ -42,7 +42,8 @@ func TestHosts(t *testing.T) {
 	_, _, h := example(t)
 	h.Add("sub.x.org", "U")
 	h.Add("org", "O")
-	for host, want := range map[string]string{"X.org": "T.X", "m.x.org": "T.X", "mx.org": "O", "A.SUB.X.ORG": "U", "sub.x.org": "U", "asub.x.org": "T.X", "y.org": "O", "a.y.org": "S", ".y.org": "S", "a.b.y.org": "S", "": "", "com": "", "org": "O", "borg": "", strings.Repeat("a", 100) + ".org": "O", strings.Repeat("a", 100): ""} {
+	h.Add("az", "AZ")
+	for host, want := range map[string]string{"AZ": "AZ", "B.aZ": "AZ", "X.org": "T.X", "m.x.org": "T.X", "mx.org": "O", "A.SUB.X.ORG": "U", "sub.x.org": "U", "asub.x.org": "T.X", "y.org": "O", "a.y.org": "S", ".y.org": "S", "a.b.y.org": "S", "": "", "com": "", "org": "O", "borg": "", strings.Repeat("a", 100) + ".org": "O", strings.Repeat("a", 100): ""} {
 		r, e := h.Realm(host)
 		if r != want || (e == api.OK) != (want != "") || want == "" && e != api.ErrNone {
 			t.Error(host, r, e)
@@ -51,7 +52,7 @@ func TestHosts(t *testing.T) {
 	for i, x := range []struct {
 		suffix, realm string
 		add, remove   api.Errno
-	}{{"x.org", "Z", api.ErrBusy, api.OK}, {"", "Z", api.ErrArg, api.ErrArg}, {"X", "Z", api.ErrArg, api.ErrArg}, {"a b", "Z", api.ErrArg, api.ErrArg}, {"\x7f", "Z", api.ErrArg, api.ErrArg}, {strings.Repeat("a", 65), "Z", api.ErrArg, api.ErrArg}, {strings.Repeat("a", 64), "Z", api.OK, api.OK}, {"q", "z", api.ErrArg, api.ErrNone}, {"!~[`", "Z", api.OK, api.OK}} {
+	}{{"x.org", "Z", api.ErrBusy, api.OK}, {"", "Z", api.ErrArg, api.ErrArg}, {"X", "Z", api.ErrArg, api.ErrArg}, {"A", "Z", api.ErrArg, api.ErrArg}, {"Z", "Z", api.ErrArg, api.ErrArg}, {"@", "Z", api.OK, api.OK}, {"a b", "Z", api.ErrArg, api.ErrArg}, {"\x7f", "Z", api.ErrArg, api.ErrArg}, {strings.Repeat("a", 65), "Z", api.ErrArg, api.ErrArg}, {strings.Repeat("a", 64), "Z", api.OK, api.OK}, {"q", "z", api.ErrArg, api.ErrNone}, {"!~[`", "Z", api.OK, api.OK}} {
 		c := h.Copy()
 		if e := c.Add(x.suffix, x.realm); e != x.add {
 			t.Error(i, e)
@@ -73,7 +74,7 @@ func TestHosts(t *testing.T) {
 		for suffix, realm := range rules {
 			s += suffix + ">" + realm + " "
 		}
-		if s != ".y.org>S far.org>F org>O own.org>R sub.x.org>U v.org>V x.org>T.X " {
+		if s != ".y.org>S az>AZ far.org>F org>O own.org>R sub.x.org>U v.org>V x.org>T.X " {
 			t.Error(s)
 		}
 	}

@@ -4,6 +4,7 @@ import (
 	"bytes"
 	"math/rand"
 	"slices"
+	"strconv"
 	"strings"
 	"testing"
 
@@ -411,18 +412,49 @@ func TestErrors(t *testing.T) {
 	}
 }
 
+// hosts sets the numbers of clients and services, which have different hosts.
+func hosts(clients, services int) func(*api.WorldConfig) {
+	return func(c *api.WorldConfig) {
+		x, y := c.Clients[0], c.Services[0]
+		c.Clients, c.Services = nil, nil
+		for i := range clients {
+			x.Host = "c" + strconv.Itoa(i)
+			c.Clients = append(c.Clients, x)
+		}
+		for i := range services {
+			y.Host = "s" + strconv.Itoa(i)
+			c.Services = append(c.Services, y)
+		}
+	}
+}
+
+// TestServices checks that the packets to each service reach it.
+func TestServices(t *testing.T) {
+	for i, s := range []string{"s@R", "t@R"} {
+		w := start(t, 1)
+		do(t, w, api.Act{Kind: api.ActStart, Goal: goal(s)})
+		settle(t, w, 0)
+		_, before := count(w)
+		do(t, w, api.Act{Kind: api.ActCall, N: i})
+		settle(t, w, 0)
+		if _, after := count(w); after != before+1 {
+			t.Error(s, before, after)
+		}
+	}
+}
+
 func TestNew(t *testing.T) {
 	for i, v := range []struct {
 		change func(*api.WorldConfig)
 		ok     bool
 	}{
-		{func(*api.WorldConfig) {}, true}, {func(c *api.WorldConfig) { c.Start = -1 }, false}, {func(c *api.WorldConfig) { c.Start = 1<<38 + 1 }, false}, {func(c *api.WorldConfig) { c.Seed = nil }, false}, {func(c *api.WorldConfig) { c.Seed = make([]byte, 101) }, false}, {func(c *api.WorldConfig) { c.Seed = make([]byte, 100) }, true}, {func(c *api.WorldConfig) { c.Realms = nil }, false}, {func(c *api.WorldConfig) { c.Realms = append(c.Realms, c.Realms[0]) }, false}, {func(c *api.WorldConfig) { c.Realms[0].Nodes = 4 }, false}, {func(c *api.WorldConfig) { c.Realms[0].Nodes = 0 }, false}, {func(c *api.WorldConfig) { c.Realms[0].Config.Life = 0 }, false}, {func(c *api.WorldConfig) { c.Realms[0].Policies = nil }, false}, {func(c *api.WorldConfig) { c.Realms[0].Config.Realm = "S" }, false},
+		{func(*api.WorldConfig) {}, true}, {func(c *api.WorldConfig) { c.Start = -1 }, false}, {func(c *api.WorldConfig) { c.Start = 1<<38 + 1 }, false}, {func(c *api.WorldConfig) { c.Seed = nil }, false}, {func(c *api.WorldConfig) { c.Seed = make([]byte, 101) }, false}, {func(c *api.WorldConfig) { c.Seed = make([]byte, 100) }, true}, {func(c *api.WorldConfig) { c.Start, c.Seed = 0, []byte{0} }, true}, {func(c *api.WorldConfig) { c.Start = 1 << 38 }, true}, {hosts(8, 2), true}, {hosts(9, 2), false}, {hosts(3, 8), true}, {hosts(3, 9), false}, {func(c *api.WorldConfig) { c.Realms = nil }, false}, {func(c *api.WorldConfig) { c.Realms = append(c.Realms, c.Realms[0]) }, false}, {func(c *api.WorldConfig) { c.Realms[0].Nodes = 4 }, false}, {func(c *api.WorldConfig) { c.Realms[0].Nodes = 0 }, false}, {func(c *api.WorldConfig) { c.Realms[0].Config.Life = 0 }, false}, {func(c *api.WorldConfig) { c.Realms[0].Policies = nil }, false}, {func(c *api.WorldConfig) { c.Realms[0].Config.Realm = "S" }, false},
 		{func(c *api.WorldConfig) {
 			c.Realms = append(c.Realms, api.WorldRealm{Config: api.CentreConfig{Realm: strings.Repeat("L", 14), Life: 1}, Nodes: 1})
 		}, true}, {func(c *api.WorldConfig) {
 			c.Realms = append(c.Realms, api.WorldRealm{Config: api.CentreConfig{Realm: strings.Repeat("L", 15), Life: 1}, Nodes: 1})
 		}, false},
-		{func(c *api.WorldConfig) { c.Trusts = [][2]string{{"R", "S"}} }, true}, {func(c *api.WorldConfig) { c.Trusts = [][2]string{{"R", "R"}} }, false}, {func(c *api.WorldConfig) { c.Rules = [][]string{{"R", "S", "T"}} }, true}, {func(c *api.WorldConfig) { c.Rules = [][]string{{"R"}} }, false}, {func(c *api.WorldConfig) { c.Rules = [][]string{{"R", "S"}, {"R", "S"}} }, false}, {func(c *api.WorldConfig) { c.Suffixes = [][2]string{{"x.org", "S"}} }, true}, {func(c *api.WorldConfig) { c.Suffixes = [][2]string{{"", "S"}} }, false},
+		{func(c *api.WorldConfig) { c.Trusts = [][2]string{{"R", "S"}} }, true}, {func(c *api.WorldConfig) { c.Trusts = [][2]string{{"R", "R"}} }, false}, {func(c *api.WorldConfig) { c.Rules = [][]string{{"R", "S", "T"}} }, true}, {func(c *api.WorldConfig) { c.Rules = [][]string{{"R"}} }, false}, {func(c *api.WorldConfig) { c.Rules = [][]string{{"R", "S"}} }, true}, {func(c *api.WorldConfig) { c.Rules = [][]string{{"R", "S"}, {"R", "S"}} }, false}, {func(c *api.WorldConfig) { c.Suffixes = [][2]string{{"x.org", "S"}} }, true}, {func(c *api.WorldConfig) { c.Suffixes = [][2]string{{"", "S"}} }, false},
 		{func(c *api.WorldConfig) { c.Clients = slices.Repeat(c.Clients, 3) }, false}, {func(c *api.WorldConfig) { c.Clients[0].Host = "host-s" }, false}, {func(c *api.WorldConfig) { c.Clients[0].Host = "R/0" }, false}, {func(c *api.WorldConfig) { c.Clients[0].Host = "R/1" }, true}, {func(c *api.WorldConfig) { c.Clients[0].Host = "" }, false}, {func(c *api.WorldConfig) { c.Clients[0].Host = strings.Repeat("h", 17) }, false}, {func(c *api.WorldConfig) { c.Clients[0].Config.Life = 0 }, false}, {func(c *api.WorldConfig) { c.Clients[0].Offset = -1001 }, false}, {func(c *api.WorldConfig) { c.Clients[0].Rate = 100001 }, false}, {func(c *api.WorldConfig) { c.Services[1].Host = "host-s" }, false}, {func(c *api.WorldConfig) { c.Services[0].Config.Limit = 0 }, false}, {func(c *api.WorldConfig) { c.Services[0].Keys = append(c.Services[0].Keys, c.Services[0].Keys[0]) }, false}, {func(c *api.WorldConfig) { c.Services[0].Offset = 1 << 62 }, false}, {func(c *api.WorldConfig) { c.Delegations = make([]api.Delegation, 1) }, false},
 	} {
 		c := config(1)
