@@ -119,6 +119,10 @@ func TestStepRate(t *testing.T) {
 		}
 	}
 	late := start(t, 0, top, 5)
+	most := start(t, 100, 50, 0)
+	if most.Step(100, top-49) != api.ErrRange || most.Step(100, top-50) != api.OK {
+		t.Error("most")
+	}
 	if late.SetRate(1, 0) != api.ErrRange || late.Step(1, -5) != api.ErrRange || late.Step(0, -top) != api.OK {
 		t.Error("late")
 	}
@@ -144,7 +148,7 @@ func TestWithin(t *testing.T) {
 		at, skew int
 		want     bool
 		e        api.Errno
-	}{{a, b, 100, 10, true, api.OK}, {a, b, 100, 9, false, api.OK}, {b, a, 100, 10, true, api.OK}, {b, a, 110, 10, false, api.OK}, {a, b, 110, 11, true, api.OK}, {a, b, 99, 5, false, api.ErrState}, {a, b, -1, 5, false, api.ErrRange}, {a, b, -1, -1, false, api.ErrArg}, {a, nil, -1, 5, false, api.ErrArg}, {a, start(t, 200, 1, 0), 150, 5, false, api.ErrState}, {start(t, 200, 1, 0), a, top, 5, false, api.OK}} {
+	}{{a, b, 100, 10, true, api.OK}, {a, a, 100, 0, true, api.OK}, {a, b, 100, 0, false, api.OK}, {a, a, 100, -1, false, api.ErrArg}, {a, b, 100, 9, false, api.OK}, {b, a, 100, 10, true, api.OK}, {b, a, 110, 10, false, api.OK}, {a, b, 110, 11, true, api.OK}, {a, b, 99, 5, false, api.ErrState}, {a, b, -1, 5, false, api.ErrRange}, {a, b, -1, -1, false, api.ErrArg}, {a, nil, -1, 5, false, api.ErrArg}, {a, start(t, 200, 1, 0), 150, 5, false, api.ErrState}, {start(t, 200, 1, 0), a, top, 5, false, api.OK}} {
 		if ok, e := v.c.Within(v.d, v.at, v.skew); ok != v.want || e != v.e {
 			t.Error(i, ok, e)
 		}

@@ -358,6 +358,30 @@ func TestTaken(t *testing.T) {
 	}
 }
 
+// TestRefused checks from where on updates are sent to a node that lacks earlier ones.
+func TestRefused(t *testing.T) {
+	l := set(t, 3)
+	m, _ := l[0].Elect()
+	settle(t, l, m)
+	for range 5 {
+		l[0].Offer(offer("a", 5))
+	}
+	l[0].Receive(message{Kind: failover.MessageTaken, From: 1, To: 0, Term: 2})
+	l[0].Elect()
+	if _, e := l[0].Receive(message{Kind: failover.MessageVoted, From: 1, To: 0, Term: 3, OK: true}); e != api.OK || l[0].Role() != failover.RolePrimary || l[0].Term() != 3 {
+		t.Fatal(e)
+	}
+	for i, x := range []struct {
+		ok          bool
+		index, want int
+	}{{false, 9, 4}, {false, 9, 3}, {false, 2, 2}, {false, 0, 0}, {false, 0, 0}, {true, 2, 2}, {false, 0, 2}} {
+		r, e := l[0].Receive(message{Kind: failover.MessageTaken, From: 2, To: 0, Term: 3, OK: x.ok, Index: x.index})
+		if e != api.OK || len(r) != 1 || r[0].Index != x.want || len(r[0].Updates) != 5-x.want {
+			t.Error(i, r, e)
+		}
+	}
+}
+
 // An update of an earlier term is acknowledged only with one of the own term.
 func TestEarlierTerm(t *testing.T) {
 	l := set(t, 3)

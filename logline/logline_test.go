@@ -133,8 +133,11 @@ func TestAlarms(t *testing.T) {
 			t.Error(i, text(c), text(a), e, f)
 		}
 	}
-	early := failed("u@R", 1, 103)
-	early.Micro = 4
+	early, late := failed("u@R", 1, 103), failed("u@R", 1, 104)
+	early.Micro, late.Micro = 4, 0
+	if c, e := logline.Clients([]api.Fact{g[0], late}, 5, 2); text(c) != "u 2 103-104;" || e != api.OK {
+		t.Error(text(c), e)
+	}
 	for i, v := range []struct {
 		l             []api.Fact
 		window, limit int

@@ -98,6 +98,15 @@ func TestReceive(t *testing.T) {
 			t.Error(i, m, e)
 		}
 	}
+	half := stream(t, 1, 0, 0, 0)
+	for i, v := range []struct {
+		seq  int
+		want api.Errno
+	}{{1<<31 - 1, api.ErrStreamGap}, {1 << 31, api.ErrStreamOld}, {1<<32 - 1, api.ErrStreamOld}, {1, api.ErrStreamGap}, {0, api.OK}} {
+		if _, _, e := half.Receive(message(v.seq), 100); e != v.want {
+			t.Error(i, e)
+		}
+	}
 	if _, _, e := a.Receive(l[3], 200); e != api.ErrStreamSide {
 		t.Error(e)
 	}
