@@ -37,7 +37,16 @@ func TestWrite(t *testing.T) {
 	same(t, "bits", der.Bits(0xfedcba98), "03 05 00 FE DC BA 98")
 	same(t, "octets", der.Octets([]byte{1, 2}), "04 02 01 02")
 	same(t, "octets", der.Octets(nil), "04 00")
+	same(t, "time", der.Time(0), "18 06 00 00 00 00 00 00")
 	same(t, "time", der.Time(1), "18 06 00 00 00 00 00 01")
+	for _, n := range []int{0, 30} {
+		r := der.New(slices.Concat(der.Application(n, der.Bool(true)), der.Tagged(n, der.Bool(false))))
+		a, e := r.Application(n)
+		b, present, f := r.Tagged(n)
+		if e != api.OK || f != api.OK || !present || a.Left() != 3 || b.Left() != 3 || r.End() != api.OK {
+			t.Error(n, present, e, f)
+		}
+	}
 	same(t, "time", der.Time(1<<40), "18 06 01 00 00 00 00 00")
 	same(t, "time", der.Time(1<<40+1), "")
 	same(t, "time", der.Time(-1), "")

@@ -101,8 +101,10 @@ func TestSignVerify(t *testing.T) {
 			}
 		}
 	}
-	if _, e := sign.Sign(1, []byte{0, 6}, []byte{7}, make([]byte, sign.MaxMessage)); e != api.OK {
-		t.Error(e)
+	longest, e := sign.Sign(1, []byte{0, 6}, []byte{7}, make([]byte, sign.MaxMessage))
+	y, _ := sign.Public(1, []byte{0, 6})
+	if f := sign.Verify(1, y, make([]byte, sign.MaxMessage), longest); e != api.OK || f != api.OK {
+		t.Error(e, f)
 	}
 }
 
