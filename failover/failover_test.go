@@ -209,6 +209,75 @@ func TestInvalidMessages(t *testing.T) {
 	}
 }
 
+// inRoles returns a follower, a candidate and a primary with an update that is not acknowledged, all of the term 2.
+func inRoles(t *testing.T) []*failover.Node {
+	t.Helper()
+	follower := set(t, 3)[0]
+	follower.Receive(message{Kind: failover.MessageVoted, From: 1, To: 0, Term: 2})
+	candidate := set(t, 3)[0]
+	candidate.Elect()
+	candidate.Elect()
+	primary := candidate.Copy()
+	primary.Receive(message{Kind: failover.MessageVoted, From: 1, To: 0, Term: 2, OK: true})
+	primary.Offer(offer("a", 5))
+	l := []*failover.Node{follower, candidate, primary}
+	for i, n := range l {
+		if n.Term() != 2 || n.Role() != failover.Role(i+1) {
+			t.Fatal(i, n.Term(), n.Role())
+		}
+	}
+	return l
+}
+
+// alike reports whether two nodes are in the same state, as far as it is seen from outside.
+func alike(a, b *failover.Node) bool {
+	sent, _ := a.Copy().Beat()
+	other, _ := b.Copy().Beat()
+	same := func(x, y message) bool { return x.Index == y.Index && len(x.Updates) == len(y.Updates) }
+	return a.Role() == b.Role() && a.Term() == b.Term() && a.Vote() == b.Vote() && a.Primary() == b.Primary() && a.Acknowledged() == b.Acknowledged() && a.Log().Len() == b.Log().Len() && slices.EqualFunc(sent, other, same)
+}
+
+// TestFields sends messages with each set of fields: only the fields that a kind has may be set.
+func TestFields(t *testing.T) {
+	const ok, index, logTerm, commit, updates, end = 1, 2, 4, 8, 16, 32
+	has := map[failover.MessageKind]int{
+		failover.MessageVote:    index | logTerm,
+		failover.MessageVoted:   ok,
+		failover.MessageUpdates: index | logTerm | updates | commit,
+		failover.MessageTaken:   ok | index,
+	}
+	build := func(kind failover.MessageKind, term, fields int) message {
+		m := message{Kind: kind, From: 2, To: 0, Term: term, OK: fields&ok > 0, Updates: []api.Update{}}
+		for field, number := range map[int]*int{index: &m.Index, logTerm: &m.LogTerm, commit: &m.Commit} {
+			if fields&field > 0 {
+				*number = 1
+			}
+		}
+		if fields&updates > 0 {
+			m.Updates = append(m.Updates, at(m.Index+1, 1, "b"))
+		}
+		return m
+	}
+	nodes := inRoles(t)
+	for kind, own := range has {
+		for fields := range end {
+			for term := 1; term <= 3; term++ {
+				for _, before := range nodes {
+					n := before.Copy()
+					l, e := n.Receive(build(kind, term, fields))
+					if fields&^own == 0 {
+						if e != api.OK {
+							t.Error(kind, fields, term, before.Role(), e)
+						}
+					} else if e != api.ErrArg || len(l) != 0 || !alike(n, before) {
+						t.Error(kind, fields, term, before.Role(), l, e)
+					}
+				}
+			}
+		}
+	}
+}
+
 func TestFull(t *testing.T) {
 	n := set(t, 3)[0]
 	n.Receive(message{Kind: failover.MessageVoted, From: 1, To: 0, Term: 1 << 31})
